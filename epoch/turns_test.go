@@ -7,6 +7,7 @@ import (
 
 	"fanlight/api"
 	"fanlight/epoch"
+	"fanlight/explore"
 )
 
 // plain is what Epochs are to one who is alone: plain numbers, of which each worker's is -1, if it isn't pinned.
@@ -286,40 +287,30 @@ func (s *stage) close() {
 
 // allTurns does what build builds by all turns that there are: how many, and by how many of them something was told ahead of the close.
 func allTurns(build func() *stage) (runs, telling int) {
-	var path []int // at each step, which of those who have something to do yet
-	for {
+	runs = explore.Each(func(pick func(int) int) {
 		s := build()
-		var widths []int
-		for {
-			var able []int
-			for a := range s.actors {
-				if !s.over(a) {
-					able = append(able, a)
-				}
-			}
-			if len(able) == 0 {
-				break
-			}
-			at := len(widths)
-			widths = append(widths, len(able))
-			if at == len(path) {
-				path = append(path, 0)
-			}
-			s.turn(able[path[at]])
-		}
-		runs++
+		s.play(pick)
 		if s.told > 0 {
 			telling++
 		}
 		s.close()
-		path = path[:len(widths)]
-		for len(path) > 0 && path[len(path)-1] == widths[len(path)-1]-1 {
-			path = path[:len(path)-1]
+	})
+	return runs, telling
+}
+
+// play lets all actors go on to their ends, by picks.
+func (s *stage) play(pick func(n int) int) {
+	for {
+		var able []int
+		for a := range s.actors {
+			if !s.over(a) {
+				able = append(able, a)
+			}
 		}
-		if len(path) == 0 {
-			return runs, telling
+		if len(able) == 0 {
+			return
 		}
-		path[len(path)-1]++
+		s.turn(able[pick(len(able))])
 	}
 }
 
