@@ -1,6 +1,8 @@
 // Package explore goes through all ways in which something that chooses may go. The tests of layers on which many work lean on it: what is promised of all turns is held against all turns of something small.
 package explore
 
+import "slices"
+
 // choice is which one was picked, of how many.
 type choice struct{ at, of int }
 
@@ -36,4 +38,25 @@ func next(path []choice) []choice {
 		path = path[:len(path)-1]
 	}
 	return nil
+}
+
+// Switches tells who does the next step, of those that are able to: one goes on as long as it is able, but for so many times at most that another one does. Each goes through all ways of that. -1: nobody is able.
+func Switches(most int, pick func(n int) int) func(able []int) int {
+	who := -1
+	return func(able []int) int {
+		k := slices.Index(able, who)
+		switch {
+		case len(able) == 0:
+			who = -1
+		case k < 0:
+			who = able[pick(len(able))]
+		case most > 0 && len(able) > 1:
+			// A pick of 0: it goes on.
+			if by := pick(len(able)); by > 0 {
+				who = able[(k+by)%len(able)]
+				most--
+			}
+		}
+		return who
+	}
 }

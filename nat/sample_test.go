@@ -11,6 +11,7 @@ import (
 	"fanlight/nat"
 	"fanlight/part"
 	"fanlight/plan"
+	"fanlight/sample"
 	"fanlight/sum"
 	"fanlight/table"
 )
@@ -32,29 +33,7 @@ func config(workers, ports, buckets int) plan.Config {
 	return plan.Config{Workers: workers, Outer: outer, Lo: 1000, Hi: 999 + ports, Buckets: buckets, Ring: 4}
 }
 
-func lay(proto int, src, dst uint32, carried []byte) []byte {
-	f, e := head.Put(head.Head{Ttl: 9, Proto: proto, Src: src, Dst: dst}, carried)
-	if e != api.OK {
-		panic(e)
-	}
-	return f
-}
-
-func udp(src, dst uint32, from, to uint16) []byte {
-	return lay(api.Udp, src, dst, part.Udp(src, dst, from, to, []byte("hi")))
-}
-
-func tcp(src, dst uint32, from, to uint16, flags int) []byte {
-	return lay(api.Tcp, src, dst, part.Tcp(src, dst, from, to, flags, []byte("hello")))
-}
-
-func echo(reply bool, src, dst uint32, id uint16) []byte {
-	return lay(api.Icmp, src, dst, part.Echo(reply, id, []byte("ping")))
-}
-
-func fault(teller, told uint32, about []byte) []byte {
-	return lay(api.Icmp, teller, told, part.Fault(3, 1, about))
-}
+var lay, udp, tcp, echo, fault = sample.Lay, sample.Udp, sample.Tcp, sample.Echo, sample.Fault
 
 // deed is what a worker is to do: a frame, or a sweep, at a tick.
 type deed struct {

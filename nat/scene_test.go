@@ -343,25 +343,6 @@ func (s *scene) play(pick func(able []int) int) {
 	s.finish()
 }
 
-// fewSwitches is who goes on till it is done, but for so many times that another one does; all ways of that are picked.
-func fewSwitches(most int, pick func(int) int) func([]int) int {
-	who := -1
-	return func(able []int) int {
-		k := slices.Index(able, who)
-		switch {
-		case k < 0:
-			who = able[pick(len(able))]
-		case most > 0 && len(able) > 1:
-			// A pick of 0: it goes on.
-			if by := pick(len(able)); by > 0 {
-				who = able[(k+by)%len(able)]
-				most--
-			}
-		}
-		return who
-	}
-}
-
 // some is who does the next step: one goes on by several while others stand still, some for long.
 func some(rnd *rand.Rand) func([]int) int {
 	who, left, several := 0, 0, 1+rnd.Intn(6)
@@ -384,7 +365,7 @@ func tryAll(t *testing.T, name string, most int, build func() *scene, want ...st
 	runs := explore.Each(func(pick func(int) int) {
 		s := build()
 		clear(s.events)
-		s.play(fewSwitches(most, pick))
+		s.play(explore.Switches(most, pick))
 		for e, n := range s.events {
 			events[e] += n
 		}
