@@ -2,6 +2,9 @@ package table
 
 import "fanlight/api"
 
+// movesMost is how many places a Put lets go at most. Alone it needs two; of those that fight for the last rooms each may take what another one made, and go round and round.
+const movesMost = 16
+
 // marked is what the cell of a place has that is being dropped.
 const marked = 1
 
@@ -53,10 +56,12 @@ func (s *Step) makeRoom() {
 	}
 }
 
-// openMoves begins to look for room. Those that stand in the first bucket are tried first; where there is no room for one of them, those that stand there come behind them all.
+// openMoves begins to look for room. Those that stand in the first bucket are tried first; where there is no room for one of them, those that stand there come behind them all. One that let many go, and hasn't got the room, tries no more: nobody changes anything for ever, whatever the turns.
 func (s *Step) openMoves() {
 	s.moves = nil
-	s.addMoves(s.spots[0], s.first, false)
+	if s.moved < movesMost {
+		s.addMoves(s.spots[0], s.first, false)
+	}
 	s.tryMove()
 }
 
@@ -119,13 +124,14 @@ func (s *Step) readMark() {
 
 func (s *Step) layOther() {
 	m := s.moves[0]
-	switch {
-	case !s.table.cas(s.to, s.read, s.read.with(m.place)):
+	if !s.table.cas(s.to, s.read, s.read.with(m.place)) {
 		s.next = lookFirst
-	case m.deep:
+		return
+	}
+	s.moved++
+	s.next = moveReplace
+	if m.deep {
 		s.next = leaveRead
-	default:
-		s.next = moveReplace
 	}
 }
 

@@ -586,7 +586,7 @@ func (s *scene) key() string {
 			num(h.place, h.word.State, h.word.Gen, h.word.Seen)
 		}
 		p := x.step
-		num(int(p.next), p.now, p.to, len(p.queue), len(p.moves))
+		num(int(p.next), p.now, p.to, p.moved, len(p.queue), len(p.moves))
 		num(p.queue...)
 		word(uint64(p.first), uint64(p.read))
 		for _, m := range p.moves {

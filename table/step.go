@@ -23,6 +23,7 @@ type Step struct {
 
 	moves []move // of a Put: what may make room, and wasn't tried yet; the first one is being tried
 	to    int    // the bucket to which that goes
+	moved int    // how many it let go
 
 	read bucket // what is changed next, as it was read
 }
