@@ -7,6 +7,7 @@ import (
 	"fanlight/api"
 	"fanlight/model"
 	"fanlight/plan"
+	"fanlight/sample"
 	"fanlight/track"
 )
 
@@ -89,10 +90,10 @@ func TestFramesThatCantBeGot(t *testing.T) {
 	for _, dst := range []uint32{outer, far} {
 		n := newNat(t, config())
 		send(t, n, udp(host, far, 5, 53), 3, 1000, 1000)
-		for _, s := range spoiled(host, dst) {
+		for _, s := range sample.Spoiled(host, dst) {
 			for _, port := range []int{1001, 1000, 7, -1, -2} {
-				refuse(t, n, model.Call{Out: true, Frame: s.b, Tick: 9, Port: port}, s.why)
-				refuse(t, n, model.Call{Frame: s.b, Tick: 9, Port: port}, s.why)
+				refuse(t, n, model.Call{Out: true, Frame: s.Frame, Tick: 9, Port: port}, s.Why)
+				refuse(t, n, model.Call{Frame: s.Frame, Tick: 9, Port: port}, s.Why)
 			}
 		}
 	}

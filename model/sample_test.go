@@ -146,45 +146,6 @@ func resumHead(b []byte) []byte {
 	return b
 }
 
-// spoilt is a frame that can't be got, and why.
-type spoilt struct {
-	why api.Errno
-	b   []byte
-}
-
-// spoiled is frames from src to dst that can't be got, for each of the reasons that there are.
-func spoiled(src, dst uint32) []spoilt {
-	good := func() []byte { return udp(src, dst, 5, 1000).bytes() }
-	with := func(at int, n byte) []byte {
-		b := good()
-		b[at] = n
-		return resumHead(b)
-	}
-	sumOff, carriedOff := good(), good()
-	sumOff[10] ^= 1
-	carriedOff[len(carriedOff)-1] ^= 1
-	inner := lay(47, dst, src, make([]byte, 8))
-	return []spoilt{
-		{api.ErrShort, nil},
-		{api.ErrShort, good()[:19]},
-		{api.ErrShort, good()[:29]},
-		{api.ErrForm, with(0, 0x65)},
-		{api.ErrForm, with(0, 0x44)},
-		{api.ErrSum, sumOff},
-		{api.ErrFragment, with(6, 0x20)},
-		{api.ErrShort, lay(api.Udp, src, dst, make([]byte, 7))},
-		{api.ErrForm, lay(api.Udp, src, dst, make([]byte, 8))},
-		{api.ErrSum, carriedOff},
-		{api.ErrShort, lay(api.Tcp, src, dst, make([]byte, 19))},
-		{api.ErrProto, lay(47, src, dst, make([]byte, 20))},
-		{api.ErrProto, lay(api.Icmp, src, dst, part.Fault(5, 0, nil))},
-		{api.ErrForm, lay(api.Icmp, src, dst, part.Fault(8, 1, nil))},
-		{api.ErrShort, lay(api.Icmp, src, dst, part.Fault(3, 0, nil))},
-		{api.ErrForm, lay(api.Icmp, src, dst, part.Fault(3, 0, inner[:27]))},
-		{api.ErrProto, lay(api.Icmp, src, dst, part.Fault(3, 0, inner))},
-	}
-}
-
 func newNat(t *testing.T, c plan.Config) *model.Nat {
 	t.Helper()
 	n, e := model.New(c)

@@ -7,6 +7,7 @@ import (
 	"fanlight/model"
 	"fanlight/part"
 	"fanlight/plan"
+	"fanlight/sample"
 )
 
 func wantWhose(t *testing.T, out bool, f frame, want api.Flow, why api.Errno) {
@@ -75,14 +76,14 @@ func TestWhoseAsksForTheOuterAddressAlone(t *testing.T) {
 // TestWhoseOfWhatCantBeGot has frames to the outer address, and to others: why they can't be got is told first.
 func TestWhoseOfWhatCantBeGot(t *testing.T) {
 	for _, dst := range []uint32{outer, far} {
-		for _, s := range spoiled(host, dst) {
+		for _, s := range sample.Spoiled(host, dst) {
 			for _, out := range []bool{true, false} {
-				if got, e := model.Whose(config(), out, s.b); e != s.why || got != (api.Flow{}) {
-					t.Errorf("Whose, out %v, of %x: %+v %d, not %d", out, s.b, got, e, s.why)
+				if got, e := model.Whose(config(), out, s.Frame); e != s.Why || got != (api.Flow{}) {
+					t.Errorf("Whose, out %v, of %x: %+v %d, not %d", out, s.Frame, got, e, s.Why)
 				}
 			}
-			if model.Begins(true, s.b) || model.Begins(false, s.b) {
-				t.Errorf("%x begins a binding", s.b)
+			if model.Begins(true, s.Frame) || model.Begins(false, s.Frame) {
+				t.Errorf("%x begins a binding", s.Frame)
 			}
 		}
 	}

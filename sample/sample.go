@@ -1,4 +1,4 @@
-// Package sample lays frames for the tests of the layers above rewrite: what they carry is the same each time, but for addresses, ports and flags.
+// Package sample lays frames for the tests of the layers above rewrite: what they carry is the same each time, but for addresses, ports and flags. Some of them are spoilt.
 package sample
 
 import (

@@ -50,3 +50,23 @@ func TestWhatCantBeLaid(t *testing.T) {
 		}
 	}
 }
+
+// TestSpoiled: each is refused just for the reason that is told of it, and there is one for each reason.
+func TestSpoiled(t *testing.T) {
+	reasons := map[api.Errno]int{}
+	for _, s := range sample.Spoiled(src, dst) {
+		h, e := head.Get(s.Frame)
+		if e == api.OK {
+			_, e = part.Get(h, s.Frame)
+		}
+		if e != s.Why {
+			t.Errorf("%x: %d, not %d", s.Frame, e, s.Why)
+		}
+		reasons[e]++
+	}
+	for _, e := range []api.Errno{api.ErrShort, api.ErrForm, api.ErrSum, api.ErrFragment, api.ErrProto} {
+		if reasons[e] == 0 {
+			t.Errorf("none is refused by %d", e)
+		}
+	}
+}
