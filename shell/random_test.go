@@ -211,7 +211,7 @@ func spoilt(rnd *rand.Rand, text string) string {
 	return string(b)
 }
 
-// TestAsOfADrive is P23.2: whatever lines come, what is told is as of a Drive to which the same is done. Of several workers free is asked for only when none has anything to do: else what they do hangs on turns.
+// TestAsOfADrive is P23.2: whatever lines come, what is told is as of a Drive to which the same is done. free is asked for when a worker is alone, or when none has anything to do: else what they do hangs on turns.
 func TestAsOfADrive(t *testing.T) {
 	t.Parallel()
 	rnd := rand.New(rand.NewSource(23))
@@ -241,7 +241,8 @@ func TestAsOfADrive(t *testing.T) {
 		for range 150 {
 			text := someLine(rnd)
 			ask(text)
-			if text == "rest" && rnd.Intn(4) == 0 {
+			alone := p.d != nil && p.d.Nat().Config().Workers == 1
+			if text == "rest" && rnd.Intn(4) == 0 || alone && rnd.Intn(50) == 0 {
 				ask("free")
 			}
 		}
